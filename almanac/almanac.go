@@ -1,23 +1,105 @@
 // Package almanac: a log of short texts that is searched by words: see DOC.md.
 package almanac
 
-import "almanac/api"
+import (
+	"slices"
+
+	"almanac/api"
+	"almanac/journal"
+)
 
 // Log is a log.
-type Log struct{}
+type Log struct {
+	config  api.Config
+	journal *journal.Journal
+	memory  *segment
+	levels  [api.Levels][]*segment
+}
 
 // New makes a log of what is on a disk (P8).
-func New(c api.Config, d *api.Disk) (*Log, api.Errno) { return nil, api.OK }
+func New(c api.Config, d *api.Disk) (*Log, api.Errno) {
+	if !isConfig(c) || !isDisk(d) {
+		return nil, api.ErrArg
+	}
+	j, entries, ok := journal.Open(d)
+	if !ok {
+		return nil, api.ErrDown
+	}
+	l := &Log{config: c, journal: j, memory: newSegment(nil)}
+	if len(entries) > 0 {
+		l.put(api.Levels-1, newSegment(entries))
+	}
+	return l, api.OK
+}
+
+func isConfig(c api.Config) bool {
+	return isWithin(c.Memory, 1, api.MaxMemory) && isWithin(c.Fan, 2, api.MaxFan) && isWithin(c.Back, 0, api.MaxBack) &&
+		isWithin(c.Workers, 1, api.MaxWorkers) && isWithin(c.Keep, 1, api.MaxKeep) && isWithin(c.Batch, 1, api.MaxBatch)
+}
+
+func isWithin(n, least, greatest int) bool { return least <= n && n <= greatest }
+
+// isDisk: only a disk that api.NewDisk made has files; the calls of a zero one would panic.
+func isDisk(d *api.Disk) bool { return d != nil && *d != (api.Disk{}) }
+
+// put: a segment comes to a level, behind all others.
+func (l *Log) put(level int, s *segment) {
+	l.levels[level] = append(l.levels[level], s)
+}
 
 // Append lays a text down; its sequence number (P9).
-func (l *Log) Append(text string) (int, api.Errno) { return 0, api.OK }
+func (l *Log) Append(text string) (int, api.Errno) {
+	switch {
+	case l.journal.Stopped():
+		return 0, api.ErrDown
+	case len(text) > api.MaxText:
+		return 0, api.ErrLong
+	case l.isFull() && len(l.levels[0]) >= l.config.Fan+l.config.Back:
+		return 0, api.ErrBusy
+	}
+	e, ok := l.journal.Lay(text)
+	if !ok {
+		return 0, api.ErrDown
+	}
+	if l.isFull() {
+		l.put(0, l.memory)
+		l.memory = newSegment(nil)
+	}
+	l.memory.add(e)
+	return e.Seq, api.OK
+}
+
+func (l *Log) isFull() bool { return len(l.memory.entries) >= l.config.Memory }
 
 // Tick lets the time go on (P10).
-func (l *Log) Tick(n int) api.Errno { return api.OK }
+func (l *Log) Tick(n int) api.Errno {
+	if !l.journal.CanTick(n) {
+		return api.ErrArg
+	}
+	if !l.journal.Tick(n) {
+		return api.ErrDown
+	}
+	return api.OK
+}
 
 // Query tells the entries that have a word, of some times; how many segments were opened (P11).
 func (l *Log) Query(word string, from int, to int) ([]api.Entry, int, api.Errno) {
-	return nil, 0, api.OK
+	if !isWord(word) {
+		return nil, 0, api.ErrWord
+	}
+	young := max(from, l.journal.Clock()-l.config.Keep) // what has a lesser time is old
+	var found []api.Entry
+	opened := 0
+	// Segments go up from the front of a level to the end of the next: so those of a higher level have the lesser numbers.
+	for _, level := range slices.Backward(l.levels[:]) {
+		for _, s := range level {
+			found = append(found, s.find(word, young, to)...)
+			if s.meets(word, from, to) {
+				opened++
+			}
+		}
+	}
+	return append(found, l.memory.find(word, young, to)...), opened, api.OK
 }
 
 // Step lets a worker do a step (P12).

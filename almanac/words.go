@@ -1,8 +1,10 @@
 package almanac
 
 import (
+	"slices"
 	"strings"
 
+	"almanac/api"
 	"almanac/order"
 )
 
@@ -24,4 +26,9 @@ func small(c byte) byte {
 		return c
 	}
 	return ' '
+}
+
+// isWord: may a text have this word?
+func isWord(word string) bool {
+	return len(word) <= api.MaxText && slices.Equal(Words(word), []string{word})
 }
