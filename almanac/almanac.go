@@ -10,10 +10,13 @@ import (
 
 // Log is a log.
 type Log struct {
-	config  api.Config
-	journal *journal.Journal
-	memory  *segment
-	levels  [api.Levels][]*segment
+	config     api.Config
+	journal    *journal.Journal
+	memory     *segment
+	levels     [api.Levels][]*segment
+	workers    []*worker
+	tails      map[int]tail
+	subscribed int // how many tails there ever were
 }
 
 // New makes a log of what is on a disk (P8).
@@ -25,7 +28,10 @@ func New(c api.Config, d *api.Disk) (*Log, api.Errno) {
 	if !ok {
 		return nil, api.ErrDown
 	}
-	l := &Log{config: c, journal: j, memory: newSegment(nil)}
+	l := &Log{config: c, journal: j, memory: newSegment(nil), tails: map[int]tail{}}
+	for range c.Workers {
+		l.workers = append(l.workers, newWorker(l))
+	}
 	if len(entries) > 0 {
 		l.put(api.Levels-1, newSegment(entries))
 	}
@@ -64,6 +70,7 @@ func (l *Log) Append(text string) (int, api.Errno) {
 	if l.isFull() {
 		l.put(0, l.memory)
 		l.memory = newSegment(nil)
+		l.layTasks()
 	}
 	l.memory.add(e)
 	return e.Seq, api.OK
@@ -87,35 +94,93 @@ func (l *Log) Query(word string, from int, to int) ([]api.Entry, int, api.Errno)
 	if !isWord(word) {
 		return nil, 0, api.ErrWord
 	}
-	young := max(from, l.journal.Clock()-l.config.Keep) // what has a lesser time is old
+	young := max(from, l.young())
 	var found []api.Entry
 	opened := 0
-	// Segments go up from the front of a level to the end of the next: so those of a higher level have the lesser numbers.
-	for _, level := range slices.Backward(l.levels[:]) {
-		for _, s := range level {
-			found = append(found, s.find(word, young, to)...)
-			if s.meets(word, from, to) {
-				opened++
-			}
+	for _, s := range l.segments() {
+		found = append(found, s.find(word, young, to)...)
+		if s.meets(word, from, to) {
+			opened++
 		}
 	}
 	return append(found, l.memory.find(word, young, to)...), opened, api.OK
 }
 
+// young: the least time of an entry that is not old.
+func (l *Log) young() int { return l.journal.Clock() - l.config.Keep }
+
+// segments: those of all levels, by the sequence numbers of their entries: since segments go from the front of a level to the
+// end of the next, a higher level has the lesser ones.
+func (l *Log) segments() []*segment {
+	var all []*segment
+	for _, level := range slices.Backward(l.levels[:]) {
+		all = append(all, level...)
+	}
+	return all
+}
+
 // Step lets a worker do a step (P12).
-func (l *Log) Step(worker int) (int, api.Errno) { return 0, api.OK }
+func (l *Log) Step(worker int) (int, api.Errno) {
+	if !isWithin(worker, 0, len(l.workers)-1) {
+		return 0, api.ErrArg
+	}
+	return l.workers[worker].next(), api.OK
+}
 
 // Levels tells the segments of all levels (P13).
-func (l *Log) Levels() [][]api.Shape { return nil }
+func (l *Log) Levels() [][]api.Shape {
+	shapes := make([][]api.Shape, len(l.levels))
+	for i, level := range l.levels {
+		for _, s := range level {
+			shapes[i] = append(shapes[i], s.shape())
+		}
+	}
+	return shapes
+}
 
 // Pending tells how many tasks there are (P13).
-func (l *Log) Pending() int { return 0 }
+func (l *Log) Pending() int {
+	n := 0
+	for _, w := range l.workers {
+		n += w.pending()
+	}
+	return n
+}
 
 // Subscribe makes a tail (P14).
-func (l *Log) Subscribe(word string) (int, api.Errno) { return 0, api.OK }
+func (l *Log) Subscribe(word string) (int, api.Errno) {
+	switch {
+	case !isWord(word):
+		return 0, api.ErrWord
+	case len(l.tails) >= api.MaxTails:
+		return 0, api.ErrMany
+	}
+	number := l.subscribed
+	l.tails[number] = newTail(word, l.journal.Next())
+	l.subscribed++
+	return number, api.OK
+}
 
 // Poll tells the next entries of a tail (P15).
-func (l *Log) Poll(tail int) ([]api.Entry, api.Errno) { return nil, api.OK }
+func (l *Log) Poll(tail int) ([]api.Entry, api.Errno) {
+	t, ok := l.tails[tail]
+	if !ok {
+		return nil, api.ErrUnknown
+	}
+	told := t.read(append(l.segments(), l.memory), l.config.Batch)
+	t.place = l.journal.Next()
+	if len(told) == l.config.Batch {
+		t.place = told[len(told)-1].Seq + 1
+	}
+	l.tails[tail] = t
+	return told, api.OK
+}
 
 // Unsubscribe ends a tail (P16).
-func (l *Log) Unsubscribe(tail int) api.Errno { return api.OK }
+func (l *Log) Unsubscribe(tail int) api.Errno {
+	if _, ok := l.tails[tail]; !ok {
+		return api.ErrUnknown
+	}
+	delete(l.tails, tail)
+	return api.OK
+}

@@ -49,3 +49,20 @@ func (s *segment) meets(word string, from, to int) bool {
 	numbers := s.having[word]
 	return numbers.Len() > 0 && s.entries[0].Time <= to && s.entries[len(s.entries)-1].Time >= from
 }
+
+// follow: the entries that have a word and a sequence number from place on, the first ones of them, most at most.
+func (s *segment) follow(word string, place, most int) []api.Entry {
+	numbers := s.having[word]
+	number := func(i int) int { n, _ := numbers.At(i); return n }
+	first := sort.Search(numbers.Len(), func(i int) bool { return s.entries[number(i)].Seq >= place })
+	var found []api.Entry
+	for i := first; i < min(first+most, numbers.Len()); i++ {
+		found = append(found, s.entries[number(i)])
+	}
+	return found
+}
+
+func (s *segment) shape() api.Shape {
+	last := len(s.entries) - 1
+	return api.Shape{First: s.entries[0].Seq, Last: s.entries[last].Seq, Count: last + 1}
+}

@@ -14,23 +14,30 @@ import (
 // model: a log, told the long way: its entries are lists, and every question goes through all of them.
 type model struct {
 	api.Config
-	clock, next int
-	memory      []api.Entry
-	levels      [api.Levels][][]api.Entry
+	clock   int
+	all     []api.Entry // that were ever laid down
+	memory  []api.Entry
+	levels  [api.Levels][][]api.Entry
+	lists   [][]int // of each worker the levels of the tasks in its list
+	running []int   // the level of the task that it runs; -1: none
+	left    []int   // how many segments it has to read for it
+	tails   map[int]*modelTail
+	numbers int // of tails
 }
 
-// again: the model behind New, with another configuration.
-func (m *model) again(c api.Config) *model {
-	var all []api.Entry
-	for i := range m.levels {
-		all = append(slices.Concat(m.levels[i]...), all...)
-	}
-	all = append(all, m.memory...)
-	out := &model{Config: c, clock: m.clock, next: m.next}
+type modelTail struct {
+	word  string
+	place int
+}
+
+func newModel(c api.Config, clock int, all []api.Entry) *model {
+	m := &model{Config: c, clock: clock, all: all, tails: map[int]*modelTail{}}
+	m.lists, m.left = make([][]int, c.Workers), make([]int, c.Workers)
+	m.running = slices.Repeat([]int{-1}, c.Workers)
 	if len(all) > 0 {
-		out.levels[api.Levels-1] = [][]api.Entry{all}
+		m.levels[api.Levels-1] = [][]api.Entry{all}
 	}
-	return out
+	return m
 }
 
 func (m *model) lay(text string) (int, api.Errno) {
@@ -43,10 +50,135 @@ func (m *model) lay(text string) (int, api.Errno) {
 	case full:
 		m.levels[0] = append(m.levels[0], m.memory)
 		m.memory = nil
+		m.layTasks()
 	}
-	m.memory = append(m.memory, entry(m.next, m.clock, text))
-	m.next++
-	return m.next - 1, api.OK
+	e := entry(len(m.all), m.clock, text)
+	m.memory, m.all = append(m.memory, e), append(m.all, e)
+	return e.Seq, api.OK
+}
+
+func (m *model) layTasks() {
+	for level := 0; level < api.Levels-1; level++ {
+		there := slices.Contains(m.running, level)
+		for _, list := range m.lists {
+			there = there || slices.Contains(list, level)
+		}
+		if w := level % m.Workers; !there && len(m.levels[level]) >= m.Fan {
+			m.lists[w] = append(m.lists[w], level)
+		}
+	}
+}
+
+func (m *model) pending() int {
+	n := 0
+	for w, level := range m.running {
+		n += len(m.lists[w])
+		if level >= 0 {
+			n++
+		}
+	}
+	return n
+}
+
+func (m *model) step(w int) (int, api.Errno) {
+	if w < 0 || w >= m.Workers {
+		return 0, api.ErrArg
+	}
+	if m.running[w] < 0 {
+		return m.take(w), api.OK
+	}
+	m.left[w]--
+	if m.left[w] > 0 {
+		return 1, api.OK
+	}
+	m.merge(w)
+	return 2, api.OK
+}
+
+func (m *model) take(w int) int {
+	from, i := w, len(m.lists[w])-1
+	if i < 0 {
+		i = 0
+		for other, list := range m.lists {
+			if len(list) > len(m.lists[from]) || len(list) == len(m.lists[from]) && other < from {
+				from = other
+			}
+		}
+	}
+	if len(m.lists[from]) == 0 {
+		return 0
+	}
+	m.running[w], m.left[w] = m.lists[from][i], m.Fan
+	m.lists[from] = append(slices.Clone(m.lists[from][:i]), m.lists[from][i+1:]...)
+	return 1
+}
+
+// merge: the task that a worker runs ends.
+func (m *model) merge(w int) {
+	level := m.running[w]
+	m.running[w] = -1
+	var merged []api.Entry
+	for _, e := range slices.Concat(m.levels[level][:m.Fan]...) {
+		stays := m.clock-e.Time <= m.Keep
+		for _, t := range m.tails {
+			stays = stays || e.Seq >= t.place
+		}
+		if stays {
+			merged = append(merged, e)
+		}
+	}
+	m.levels[level] = slices.Clone(m.levels[level][m.Fan:])
+	if len(merged) > 0 {
+		m.levels[level+1] = append(m.levels[level+1], merged)
+	}
+	m.layTasks()
+}
+
+func (m *model) shapes() [][]api.Shape {
+	out := make([][]api.Shape, api.Levels)
+	for i, level := range m.levels {
+		for _, l := range level {
+			out[i] = append(out[i], api.Shape{First: l[0].Seq, Last: l[len(l)-1].Seq, Count: len(l)})
+		}
+	}
+	return out
+}
+
+func (m *model) subscribe(word string) (int, api.Errno) {
+	if len(m.tails) == api.MaxTails {
+		return 0, api.ErrMany
+	}
+	m.tails[m.numbers] = &modelTail{word, len(m.all)}
+	m.numbers++
+	return m.numbers - 1, api.OK
+}
+
+// poll goes through all entries that ever were: none may have gone of which the tail has need.
+func (m *model) poll(tail int) ([]api.Entry, api.Errno) {
+	t := m.tails[tail]
+	if t == nil {
+		return nil, api.ErrUnknown
+	}
+	var found []api.Entry
+	for _, e := range m.all[t.place:] {
+		if slices.Contains(naiveWords(e.Text), t.word) {
+			found = append(found, e)
+		}
+		if len(found) == m.Batch {
+			t.place = e.Seq + 1
+			return found, api.OK
+		}
+	}
+	t.place = len(m.all)
+	return found, api.OK
+}
+
+func (m *model) unsubscribe(tail int) api.Errno {
+	if m.tails[tail] == nil {
+		return api.ErrUnknown
+	}
+	delete(m.tails, tail)
+	return api.OK
 }
 
 func (m *model) tick(n int) api.Errno {
@@ -94,8 +226,16 @@ type pair struct {
 	calls []string
 }
 
+// someConfig: those with which little is enough for much to happen come more often.
 func someConfig(r *rand.Rand) api.Config {
-	return api.Config{Memory: 1 + r.IntN(api.MaxMemory), Fan: 2 + r.IntN(api.MaxFan-1), Back: r.IntN(api.MaxBack + 1), Workers: 1 + r.IntN(api.MaxWorkers), Keep: 1 + r.IntN(60), Batch: 1 + r.IntN(api.MaxBatch)}
+	c := api.Config{Memory: 1 + r.IntN(api.MaxMemory), Fan: 2 + r.IntN(api.MaxFan-1), Back: r.IntN(api.MaxBack + 1), Workers: 1 + r.IntN(api.MaxWorkers), Keep: 1 + r.IntN(60), Batch: 1 + r.IntN(api.MaxBatch)}
+	if r.IntN(3) > 0 {
+		c.Memory, c.Fan = 1+r.IntN(2), 2
+	}
+	if r.IntN(2) == 0 {
+		c.Keep = 1 + r.IntN(2000)
+	}
+	return c
 }
 
 // call notes a call, so that what went wrong can be told with all that was ahead of it.
@@ -134,8 +274,12 @@ func (p *pair) tick(t *testing.T) {
 	}
 }
 
+func (p *pair) someWord() string {
+	return []string{"a", "b", "aa", "ab", "0", "1", "10", "a1", "bb"}[p.r.IntN(9)]
+}
+
 func (p *pair) query(t *testing.T) {
-	word := []string{"a", "b", "aa", "ab", "0", "1", "10", "a1", "bb"}[p.r.IntN(9)]
+	word := p.someWord()
 	from, to := p.model.clock-p.r.IntN(80), p.model.clock-p.r.IntN(60)
 	if p.r.IntN(3) == 0 {
 		from, to = 0, ever
@@ -144,10 +288,70 @@ func (p *pair) query(t *testing.T) {
 	x, n, f := p.log.Query(word, from, to)
 	x2, n2 := p.model.query(word, from, to)
 	if !slices.Equal(x, x2) || f != api.OK {
-		p.fail(t, "P11", x, x2)
+		p.fail(t, "P11, P17", x, x2)
 	}
 	if n != n2 {
 		p.fail(t, "P11, segments", n, n2)
+	}
+}
+
+// steps: some workers do some steps, or one of them many; now and then one that there is not.
+func (p *pair) steps(t *testing.T) {
+	w, alone := p.r.IntN(p.model.Workers), p.r.IntN(2) == 0
+	for range 1 + p.r.IntN(12) {
+		if !alone {
+			w = p.r.IntN(p.model.Workers)
+		}
+		if p.r.IntN(100) == 0 {
+			w = p.r.IntN(9) - 2
+		}
+		p.call("Step(%d)", w)
+		n, f := p.log.Step(w)
+		if n2, f2 := p.model.step(w); n != n2 || f != f2 {
+			p.fail(t, "P12", []int{n, int(f)}, []int{n2, int(f2)})
+		}
+		p.look(t)
+	}
+}
+
+// look holds all against the model that a log tells of its segments and tasks.
+func (p *pair) look(t *testing.T) {
+	got, want := p.log.Levels(), p.model.shapes()
+	if !slices.EqualFunc(got, want, slices.Equal[[]api.Shape]) {
+		p.fail(t, "P13, Levels", got, want)
+	}
+	if n, n2 := p.log.Pending(), p.model.pending(); n != n2 {
+		p.fail(t, "P13, Pending", n, n2)
+	}
+}
+
+func (p *pair) subscribe(t *testing.T) {
+	word := p.someWord()
+	p.call("Subscribe(%q)", word)
+	n, f := p.log.Subscribe(word)
+	if n2, f2 := p.model.subscribe(word); n != n2 || f != f2 {
+		p.fail(t, "P14", []int{n, int(f)}, []int{n2, int(f2)})
+	}
+}
+
+// someTail: mostly one that there is, or was.
+func (p *pair) someTail() int { return p.r.IntN(p.model.numbers+3) - 1 }
+
+func (p *pair) poll(t *testing.T) {
+	tail := p.someTail()
+	p.call("Poll(%d)", tail)
+	x, f := p.log.Poll(tail)
+	if x2, f2 := p.model.poll(tail); !slices.Equal(x, x2) || f != f2 {
+		p.fail(t, "P15, P18", x, x2)
+	}
+}
+
+func (p *pair) unsubscribe(t *testing.T) {
+	tail := p.someTail()
+	p.call("Unsubscribe(%d)", tail)
+	f := p.log.Unsubscribe(tail)
+	if f2 := p.model.unsubscribe(tail); f != f2 {
+		p.fail(t, "P16", f, f2)
 	}
 }
 
@@ -159,29 +363,39 @@ func (p *pair) new(t *testing.T) {
 	}
 	p.call("New(%+v)", c)
 	p.log = open(t, c, p.disk)
-	p.model = p.model.again(c)
+	p.model = newModel(c, p.model.clock, p.model.all)
 }
 
 // TestByChance holds logs against the model, call by call.
 func TestByChance(t *testing.T) {
-	for seed := range uint64(60) {
+	for seed := range uint64(80) {
 		r := rand.New(rand.NewPCG(seed, 11))
 		c := someConfig(r)
-		p := &pair{r: r, model: &model{Config: c}}
+		p := &pair{r: r, model: newModel(c, 0, nil)}
 		p.disk, p.hand = api.NewDisk()
 		p.log = open(t, c, p.disk)
 		p.call("New(%+v)", c)
-		for range 400 {
-			switch n := r.IntN(100); {
-			case n < 50:
+		for range 800 {
+			switch n := r.IntN(1000); {
+			case n < 400:
 				p.append(t)
-			case n < 65:
+			case n < 470:
 				p.tick(t)
-			case n < 97:
+			case n < 600:
 				p.query(t)
+			case n < 900:
+				p.steps(t)
+			case n < 920:
+				p.subscribe(t)
+			case n < 985:
+				p.poll(t)
+			case n < 996:
+				p.unsubscribe(t)
 			default:
 				p.new(t)
 			}
+			p.look(t)
 		}
+		rest(t, p.log, p.model.Config)
 	}
 }

@@ -43,6 +43,9 @@ func (j *Journal) Stopped() bool { return j.disk.Stopped() }
 // Clock tells the time.
 func (j *Journal) Clock() int { return j.clock }
 
+// Next tells the next sequence number.
+func (j *Journal) Next() int { return j.count }
+
 // CanTick tells whether the clock may go on by n (P10).
 func (j *Journal) CanTick(n int) bool {
 	return 1 <= n && n <= api.MaxTick && n <= api.MaxNumber-j.clock

@@ -28,6 +28,9 @@ func tick(t *testing.T, j *journal.Journal, n int) {
 // wantLay: the text becomes an entry of this number and time.
 func wantLay(t *testing.T, j *journal.Journal, text string, seq, time int) api.Entry {
 	t.Helper()
+	if n := j.Next(); n != seq {
+		t.Errorf("P8: the next number is %d, want %d", n, seq)
+	}
 	want := api.Entry{Seq: seq, Time: time, Text: text}
 	if e, ok := j.Lay(text); e != want || !ok {
 		t.Errorf("P8: Lay(%q) = %#v, %t, want %#v", text, e, ok, want)
@@ -96,8 +99,8 @@ func TestStoppedJournal(t *testing.T) {
 		if j.Tick(5) || j.Clock() != 3 {
 			t.Errorf("P8: Tick on a disk that stops: the clock is %d", j.Clock())
 		}
-		if e, ok := j.Lay("a"); ok || e != (api.Entry{}) {
-			t.Errorf("P8: Lay on a disk that stops: %#v, %t", e, ok)
+		if e, ok := j.Lay("a"); ok || e != (api.Entry{}) || j.Next() != 0 {
+			t.Errorf("P8: Lay on a disk that stops: %#v, %t; the next number is %d", e, ok, j.Next())
 		}
 		if !j.Stopped() {
 			t.Error("P8: a journal on a disk that is stopped is not")
