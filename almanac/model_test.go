@@ -40,14 +40,25 @@ func newModel(c api.Config, clock int, all []api.Entry) *model {
 	return m
 }
 
-func (m *model) lay(text string) (int, api.Errno) {
-	full := len(m.memory) == m.Memory
+// story: what is there behind New.
+func (m *model) story() story { return story{m.all, m.clock} }
+
+// refuses: what an Append is answered, if not that it is laid down.
+func (m *model) refuses(text string) api.Errno {
 	switch {
 	case len(text) > api.MaxText:
-		return 0, api.ErrLong
-	case full && len(m.levels[0]) >= m.Fan+m.Back:
-		return 0, api.ErrBusy
-	case full:
+		return api.ErrLong
+	case len(m.memory) == m.Memory && len(m.levels[0]) >= m.Fan+m.Back:
+		return api.ErrBusy
+	}
+	return api.OK
+}
+
+func (m *model) lay(text string) (int, api.Errno) {
+	if f := m.refuses(text); f != api.OK {
+		return 0, f
+	}
+	if len(m.memory) == m.Memory {
 		m.levels[0] = append(m.levels[0], m.memory)
 		m.memory = nil
 		m.layTasks()
@@ -181,11 +192,10 @@ func (m *model) unsubscribe(tail int) api.Errno {
 	return api.OK
 }
 
-func (m *model) tick(n int) api.Errno {
+func (m *model) refusesTick(n int) api.Errno {
 	if n < 1 || n > api.MaxTick {
 		return api.ErrArg
 	}
-	m.clock += n
 	return api.OK
 }
 
@@ -221,9 +231,20 @@ type pair struct {
 	r     *rand.Rand
 	log   *almanac.Log
 	model *model
+	may   story // what a crash may leave in place of the model's story, if a call could not be made safe
 	disk  *api.Disk
 	hand  *api.Hand
 	calls []string
+}
+
+func newPair(t *testing.T, r *rand.Rand) *pair {
+	t.Helper()
+	c := someConfig(r)
+	p := &pair{r: r, model: newModel(c, 0, nil)}
+	p.disk, p.hand = api.NewDisk()
+	p.log = open(t, c, p.disk)
+	p.call("New(%+v)", c)
+	return p
 }
 
 // someConfig: those with which little is enough for much to happen come more often.
@@ -256,9 +277,27 @@ func (p *pair) append(t *testing.T) {
 		text = someText(p.r, p.r.IntN(5))
 	}
 	p.call("Append(%q)", text)
+	stopped := p.disk.Stopped()
 	n, f := p.log.Append(text)
+	if stopped || f == api.ErrDown {
+		p.down(t, stopped, f, p.model.refuses(text), p.model.story().with(text))
+		return
+	}
 	if n2, f2 := p.model.lay(text); n != n2 || f != f2 {
 		p.fail(t, "P9", []int{n, int(f)}, []int{n2, int(f2)})
+	}
+	p.may = p.model.story()
+}
+
+// down: an Append or a Tick could not be made safe, since the disk was stopped, or stopped meanwhile: then it may be there behind
+// a crash, if nothing else was against it.
+func (p *pair) down(t *testing.T, stopped bool, got, refused api.Errno, may story) {
+	t.Helper()
+	if got != api.ErrDown || !p.disk.Stopped() || !stopped && refused != api.OK {
+		p.fail(t, "P8, on a disk that stops", got, refused)
+	}
+	if !stopped {
+		p.may = may
 	}
 }
 
@@ -268,15 +307,26 @@ func (p *pair) tick(t *testing.T) {
 		n = p.r.IntN(1200)
 	}
 	p.call("Tick(%d)", n)
+	stopped := p.disk.Stopped()
 	f := p.log.Tick(n)
-	if f2 := p.model.tick(n); f != f2 {
-		p.fail(t, "P10", f, f2)
+	refused := p.model.refusesTick(n) // told ahead of ErrDown
+	switch {
+	case refused != api.OK && f != refused:
+		p.fail(t, "P10", f, refused)
+	case refused != api.OK:
+	case stopped || f == api.ErrDown:
+		p.down(t, stopped, f, refused, p.model.story().later(n))
+	case f != api.OK:
+		p.fail(t, "P10", f, api.OK)
+	default:
+		p.model.clock += n
+		p.may = p.model.story()
 	}
 }
 
-func (p *pair) someWord() string {
-	return []string{"a", "b", "aa", "ab", "0", "1", "10", "a1", "bb"}[p.r.IntN(9)]
-}
+func (p *pair) words() []string { return []string{"a", "b", "aa", "ab", "0", "1", "10", "a1", "bb"} }
+
+func (p *pair) someWord() string { return p.words()[p.r.IntN(len(p.words()))] }
 
 func (p *pair) query(t *testing.T) {
 	word := p.someWord()
@@ -358,42 +408,43 @@ func (p *pair) unsubscribe(t *testing.T) {
 // new opens the log again, on the same disk or on what a crash leaves.
 func (p *pair) new(t *testing.T) {
 	c := someConfig(p.r)
-	if p.r.IntN(2) == 0 {
-		p.disk, p.hand = p.hand.Crash(p.r.IntN(100))
+	if p.disk.Stopped() || p.r.IntN(2) == 0 {
+		p.crash()
 	}
+	p.hand.Stop(-1)
 	p.call("New(%+v)", c)
 	p.log = open(t, c, p.disk)
+	p.settle(t)
 	p.model = newModel(c, p.model.clock, p.model.all)
+}
+
+func (p *pair) someCall(t *testing.T) {
+	switch n := p.r.IntN(1000); {
+	case n < 400:
+		p.append(t)
+	case n < 470:
+		p.tick(t)
+	case n < 600:
+		p.query(t)
+	case n < 900:
+		p.steps(t)
+	case n < 920:
+		p.subscribe(t)
+	case n < 985:
+		p.poll(t)
+	case n < 996:
+		p.unsubscribe(t)
+	default:
+		p.new(t)
+	}
 }
 
 // TestByChance holds logs against the model, call by call.
 func TestByChance(t *testing.T) {
 	for seed := range uint64(80) {
-		r := rand.New(rand.NewPCG(seed, 11))
-		c := someConfig(r)
-		p := &pair{r: r, model: newModel(c, 0, nil)}
-		p.disk, p.hand = api.NewDisk()
-		p.log = open(t, c, p.disk)
-		p.call("New(%+v)", c)
+		p := newPair(t, rand.New(rand.NewPCG(seed, 11)))
 		for range 800 {
-			switch n := r.IntN(1000); {
-			case n < 400:
-				p.append(t)
-			case n < 470:
-				p.tick(t)
-			case n < 600:
-				p.query(t)
-			case n < 900:
-				p.steps(t)
-			case n < 920:
-				p.subscribe(t)
-			case n < 985:
-				p.poll(t)
-			case n < 996:
-				p.unsubscribe(t)
-			default:
-				p.new(t)
-			}
+			p.someCall(t)
 			p.look(t)
 		}
 		rest(t, p.log, p.model.Config)

@@ -108,6 +108,38 @@ func TestStoppedJournal(t *testing.T) {
 	}
 }
 
+// TestTornRecords: of a record that was not made safe a crash leaves any number of bytes: it is read whole or not at all, that
+// stays so, and what is written behind it is read too.
+func TestTornRecords(t *testing.T) {
+	const text = "\x01\x015 \x00"
+	last := 0
+	for keep := range 20 {
+		d, h := api.NewDisk()
+		j, _ := open(t, d)
+		want := []api.Entry{wantLay(t, j, "a", 0, 0)}
+		h.Stop(1)
+		j.Lay(text)
+		d, h = h.Crash(keep)
+		j, l := open(t, d)
+		if len(l) == 2 {
+			want = append(want, api.Entry{Seq: 1, Text: text})
+		}
+		if !slices.Equal(l, want) || len(l) < last || j.Clock() != 0 {
+			t.Fatalf("P8: keep %d leaves %#v at %d", keep, l, j.Clock())
+		}
+		last = len(l)
+		tick(t, j, 8)
+		want = append(want, wantLay(t, j, "b", len(want), 8))
+		d, _ = h.Crash(0)
+		if j, l = open(t, d); !slices.Equal(l, want) || j.Clock() != 8 {
+			t.Errorf("P8: behind keep %d: %#v at %d, want %#v at 8", keep, l, j.Clock(), want)
+		}
+	}
+	if last != 2 {
+		t.Error("P8: a record that a crash left whole is not read")
+	}
+}
+
 // TestOpenAtTheLastStep: a disk that stops with the last step that Open needs has stopped meanwhile.
 func TestOpenAtTheLastStep(t *testing.T) {
 	for steps := 0; ; steps++ {
